@@ -1,0 +1,1 @@
+"""Figures in sand: which charts agree with what is left of one."""
