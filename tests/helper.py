@@ -1,5 +1,7 @@
 """What the tests share: calls as lists, answers one by one, and a sand that tries out all charts."""
 
+import itertools
+
 from sandfigures.sand import answers
 
 LARGEST = 4294967295
@@ -28,6 +30,26 @@ def drop(sign):
 
 def chart(k):
     return [5, k]
+
+
+def sure():
+    return [6]
+
+
+def may(place):
+    return [7, place]
+
+
+def cast(marks):
+    return [8, len(marks)] + list(marks)
+
+
+def read(number):
+    return [9, number]
+
+
+def honest():
+    return [10]
 
 
 def ask(*calls):
@@ -72,6 +94,16 @@ def figures_of(number):
     return places
 
 
+def comes_to(figures, place):
+    """The places that the way of the point comes to from a place, itself too, as the document's words tell it."""
+    added = {8: (0, 1), 9: (2, 3), 10: (4, 5), 11: (6, 7), 12: (8, 9), 13: (10, 11), 14: (12, 13)}
+    places = {place}
+    for origin in added.get(place, ()):
+        if has_one_point(figures[origin], 0) == has_one_point(figures[place], 0):
+            places |= comes_to(figures, origin)
+    return places
+
+
 class TriedOut:
     """A sand that goes through all charts; a set of charts is a number with the bits of their numbers."""
 
@@ -105,7 +137,9 @@ class TriedOut:
         return self.with_one[place][row] if one else self.whole ^ self.with_one[place][row]
 
     def answer(self, call):
-        return (self.clears, self.points, self.figure, self.like, self.drop, self.chart)[call[0]](*call[1:])
+        signs = (self.clears, self.points, self.figure, self.like, self.drop)
+        others = (self.chart, self.sure, self.may, self.cast, self.read, self.honest)
+        return (signs + others)[call[0]](*call[1:])
 
     def clears(self):
         self.signs = []
@@ -136,3 +170,46 @@ class TriedOut:
     def chart(self, k):
         numbers = self.in_order()
         return [0] + self.charts[numbers[k]] if k < len(numbers) else [-3]
+
+    def sure(self):
+        left = self.agreeing()
+        if left == 0:
+            return [-6]
+        told = []
+        for rows in self.with_one:
+            told.append(form_with([left & ones == left for ones in rows]))
+            told.append(form_with([left & ones == 0 for ones in rows]))
+        return [sum(bin(form).count("1") for form in told)] + told
+
+    def may(self, place):
+        if place > 15:
+            return [-1]
+        if self.agreeing() == 0:
+            return [-6]
+        forms = sorted({self.charts[number][place] for number in self.in_order()})
+        return [len(forms)] + forms
+
+    def cast(self, count, *marks):
+        digits = ["1" if mark % 2 == 1 else "0" for mark in marks]
+        return [int("".join(digits), 2)]
+
+    def read(self, number):
+        if number > 65535:
+            return [-1]
+        figures = self.charts[number]
+        way = sorted(comes_to(figures, 14))
+        return [0] + figures + [len(set(figures)), len(way)] + way
+
+    def honest(self):
+        if len(self.signs) > 12:
+            return [-7]
+        numbers = range(len(self.signs))
+        for size in range(len(self.signs) + 1):
+            for left_out in itertools.combinations(numbers, size):
+                left = self.whole
+                for number in numbers:
+                    if number not in left_out:
+                        left &= self.signs[number]
+                if left:
+                    return [size] + list(left_out) + [bin(left).count("1")]
+        raise AssertionError("no chart agrees with no sign")
